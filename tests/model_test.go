@@ -89,6 +89,20 @@ func (d *dice) rolled(w *model, tasks, fns int) impl.Moment {
 	return m
 }
 
+// soundTrace answers a trace of n moments without a fault.
+func (d *dice) soundTrace(n, tasks, fns int) impl.Trace {
+	x := impl.Trace{Fns: make([]string, fns)}
+	w := newModel()
+	for len(x.Moments) < n {
+		m := d.rolled(w, tasks, fns)
+		if w.fault(m) == 0 {
+			w.follow(len(x.Moments), m)
+			x.Moments = append(x.Moments, m)
+		}
+	}
+	return x
+}
+
 // TestP1P2AgainstTheModel makes traces that go on past faults, and holds each of their sound beginnings against the model.
 func TestP1P2AgainstTheModel(t *testing.T) {
 	for seed := range 200 {
